@@ -1,0 +1,1 @@
+"""Numbers that ring, and what each second costs."""

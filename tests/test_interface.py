@@ -1,0 +1,36 @@
+import importlib
+import inspect
+import unittest
+
+# The functions and classes of the interface that have landed, with their arguments.
+INTERFACE = {
+    "errors": {
+        "SecondError": None, "BadValue": "at", "BadText": "at", "BadRow": "at", "Clash": "fact", "NoCall": "call",
+        "TakenCall": "call", "NoMoney": None, "NotNow": None,
+    },
+    "plans": {
+        "is_plan": "value", "ring": "plan number second", "holder": "plan number second", "first_circle": "plan",
+        "plans_part": "one other",
+    },
+    "weeks": {
+        "is_week": "value", "band": "week second", "next_change": "week second",
+        "seconds_in": "week first last band",
+    },
+}
+
+
+class InterfaceTest(unittest.TestCase):
+
+    def test_each_name_is_defined_in_its_file_with_its_arguments(self):
+        for module_name, names in INTERFACE.items():
+            module = importlib.import_module(f"eachsecond.{module_name}")
+            for name, arguments in names.items():
+                with self.subTest(module=module_name, name=name):
+                    made = getattr(module, name)
+                    self.assertEqual((made.__module__, made.__name__), (module.__name__, name))
+                    if arguments is not None:
+                        self.assertEqual(" ".join(inspect.signature(made).parameters), arguments)
+
+
+if __name__ == "__main__":
+    unittest.main()
