@@ -3,6 +3,7 @@
 from eachsecond.errors import BadValue
 
 LAST_SECOND = 10 ** 8
+MOST_PRICE = 10 ** 6
 
 
 def need(good, at):
@@ -22,7 +23,9 @@ def is_within(value, low, high):
 
 def is_digits(value, low, high):
     """Whether value is a string of low to high digits."""
-    return isinstance(value, str) and low <= len(value) <= high and value.isascii() and value.isdigit()
+    if not isinstance(value, str) or not low <= len(value) <= high:
+        return False
+    return value == "" or (value.isascii() and value.isdigit())
 
 
 def is_word(value):

@@ -40,6 +40,18 @@ def day_of(week, number):
     return days[FEAST] if number in feasts else days[number % 7]
 
 
+def first_days(week):
+    """Pairs (number, day): the first day with each of the week's days, but for one that never comes."""
+    days, feasts = week
+    found = [(feasts[0], days[FEAST])] if feasts else []
+    for kind in range(7):
+        number = kind
+        while number in feasts:
+            number += 7
+        found.append((number, days[kind]))
+    return found
+
+
 def band_at(week, second):
     """`band` of a week that is as described, also above the last second."""
     found = None

@@ -1,5 +1,8 @@
 """The document's words, followed one by one and slowly, to compare the program with."""
 
+import itertools
+from fractions import Fraction
+
 DIGITS = "0123456789"
 LETTERS = "abcdefghijklmnopqrstuvwxyz"
 
@@ -100,6 +103,24 @@ def ring(a_plan, which, when):
     return ("nowhere", which) if held is None else ("rings", which) + held
 
 
+def rings(a_plan, when, numbers):
+    """The rings of all numbers at one second; for plans too long to look up the rows anew for each number."""
+    targets = {number: to for number, since, to in a_plan[2] if since <= when}
+    holders = {number: holder(a_plan, number, when) for number in {each[0] for each in a_plan[1]}}
+    found = {}
+    for number in numbers:
+        come_to, which = set(), number
+        while which not in come_to and targets.get(which) is not None:
+            come_to.add(which)
+            which = targets[which]
+        held = holders.get(which)
+        if which in come_to:
+            found[number] = ("circle", which)
+        else:
+            found[number] = ("nowhere", which) if held is None else ("rings", which) + held
+    return found
+
+
 def first_circle(a_plan, seconds, numbers):
     for when in sorted(seconds):
         for which in sorted(numbers, key=order):
@@ -136,3 +157,178 @@ def band(a_week, when):
     count, rest = divmod(when, 86400)
     mine = a_week[0][7] if count in a_week[1] else a_week[0][count % 7]
     return [pair[1] for pair in mine if pair[0] <= rest][-1]
+
+
+def tariff(value):
+    if not (rows(value, 3, 3) and integer(value[0], 0, 10 ** 6) and rows(value[1], 1, 12) and rows(value[2], 0, 40)):
+        return False
+    for row in value[1]:
+        if not (rows(row, 2, 2) and made_of(row[0], DIGITS, 0, 3) and word(row[1])):
+            return False
+    for row in value[2]:
+        if not (rows(row, 3, 3) and word(row[0]) and word(row[1]) and integer(row[2], 0, 10 ** 6)):
+            return False
+    if value[1][0][0] != "" or not strictly_ascending([row[0] for row in value[1]]):
+        return False
+    keys = [(row[0], row[1]) for row in value[2]]
+    return len(set(keys)) == len(keys) and strictly_ascending([tuple(row) for row in value[2]])
+
+
+def zone(a_tariff, which):
+    return max((row for row in a_tariff[1] if which.startswith(row[0])), key=lambda row: len(row[0]))[1]
+
+
+def price_in(a_tariff, which, a_band):
+    fitting = [row[2] for row in a_tariff[2] if (row[0], row[1]) == (zone(a_tariff, which), a_band)]
+    return fitting[0] if fitting else 0
+
+
+def price(a_tariff, a_week, which, when):
+    return price_in(a_tariff, which, band(a_week, when))
+
+
+def second_prices(a_tariff, a_week, which, begin, length):
+    """The prices of the seconds, one by one."""
+    by_band = {}
+    for when in range(begin, begin + length):
+        a_band = band(a_week, when)
+        if a_band not in by_band:
+            by_band[a_band] = price_in(a_tariff, which, a_band)
+        yield by_band[a_band]
+
+
+def cost(a_tariff, a_week, which, begin, length):
+    return a_tariff[0] + sum(second_prices(a_tariff, a_week, which, begin, length))
+
+
+def most(a_tariff, a_week, which, begin, money, cap):
+    count = 0
+    for each in second_prices(a_tariff, a_week, which, begin, cap):
+        money -= each
+        if money < 0:
+            break
+        count += 1
+    return count
+
+
+def starts(a_week):
+    """The seconds at which a pair of a day begins, up to the last second; between them no band changes."""
+    for number in range(10 ** 8 // 86400 + 1):
+        for start, _ in a_week[0][7] if number in a_week[1] else a_week[0][number % 7]:
+            if number * 86400 + start <= 10 ** 8:
+                yield number * 86400 + start
+
+
+def tariffs_part(one, other, a_week):
+    """Of calls of no second and of one; the numbers of three digits, which are the least ones, stand for all."""
+    if one[0] != other[0]:
+        return (0, 0, "000")
+    zones = [(zone(one, f"{k:03d}"), zone(other, f"{k:03d}")) for k in range(1000)]
+    firsts = [f"{k:03d}" for k in range(1000) if zones[k] not in zones[:k]]
+    alike = set()
+    for begin in starts(a_week):
+        a_band = band(a_week, begin)
+        if a_band in alike:
+            continue
+        for which in firsts:
+            if price_in(one, which, a_band) != price_in(other, which, a_band):
+                return (1, begin, which)
+        alike.add(a_band)
+    return None
+
+
+def groups(value):
+    if not rows(value, 0, 4000):
+        return False
+    for row in value:
+        if not (rows(row, 4, 4) and word(row[0]) and word(row[1])):
+            return False
+        if not (integer(row[2], 0, 10 ** 6) and integer(row[3], 1, 10 ** 9)):
+            return False
+    return strictly_ascending([tuple(row[:3]) for row in value])
+
+
+def bundles(value):
+    if not rows(value, 0, 8):
+        return False
+    for row in value:
+        if not (rows(row, 4, 4) and word(row[0]) and integer(row[1], 0, 10 ** 9)):
+            return False
+        for names in row[2:]:
+            if not (rows(names, 0, 12) and all(word(name) for name in names) and strictly_ascending(names)):
+                return False
+    return strictly_ascending([row[0] for row in value])
+
+
+def covers(bundle, group):
+    return group[0] in bundle[2] and group[1] in bundle[3]
+
+
+def is_use(all_groups, all_bundles, use):
+    if not all(rows(row, 3, 3) and all(type(part) is int for part in row) for row in use):
+        return False
+    keys = [(row[0], row[1]) for row in use]
+    if not (all(row[2] >= 1 for row in use) and keys == sorted(set(keys))):
+        return False
+    if not all(0 <= row[0] < len(all_groups) and 0 <= row[1] < len(all_bundles) for row in use):
+        return False
+    if not all(covers(all_bundles[row[1]], all_groups[row[0]]) for row in use):
+        return False
+    given, taken = [0] * len(all_groups), [0] * len(all_bundles)
+    for group, bundle, seconds in use:
+        given[group] += seconds
+        taken[bundle] += seconds
+    return (all(given[k] <= group[3] for k, group in enumerate(all_groups))
+            and all(taken[k] <= bundle[1] for k, bundle in enumerate(all_bundles)))
+
+
+def bill(all_groups, use):
+    return sum(group[2] * group[3] for group in all_groups) - sum(all_groups[row[0]][2] * row[2] for row in use)
+
+
+def least_bill(all_groups, all_bundles):
+    """Of all uses there are."""
+    pairs = [(i, j) for i, group in enumerate(all_groups)
+             for j, bundle in enumerate(all_bundles) if covers(bundle, group)]
+    many = [range(min(all_groups[i][3], all_bundles[j][1]) + 1) for i, j in pairs]
+    best = bill(all_groups, ())
+    for seconds in itertools.product(*many):
+        use = [pair + (each,) for pair, each in zip(pairs, seconds) if each]
+        if is_use(all_groups, all_bundles, use):
+            best = min(best, bill(all_groups, use))
+    return best
+
+
+def shown(all_groups, all_bundles, worths):
+    """What the worths show to be at most any bill."""
+    total = 0
+    for group in all_groups:
+        covering = [worth for bundle, worth in zip(all_bundles, worths) if covers(bundle, group)]
+        total += group[3] * min([group[2]] + covering)
+    return total - sum(bundle[1] * worth for bundle, worth in zip(all_bundles, worths))
+
+
+def paper_holds(all_groups, all_bundles, bound, value):
+    many = len(all_bundles)
+    if not (rows(value, many, many) and all(integer(each, 0, 10 ** 6) for each in value)):
+        return False
+    return bound <= shown(all_groups, all_bundles, value)
+
+
+def shares(whole, weights):
+    parts = [Fraction(whole * weight, sum(weights)) for weight in weights]
+    found = [part.numerator // part.denominator for part in parts]
+    served = []
+    while sum(found) < whole:
+        left = [k for k in range(len(parts)) if k not in served]
+        # max takes the first one of equal ones.
+        at = max(left, key=lambda k: parts[k] - parts[k].numerator // parts[k].denominator)
+        found[at] += 1
+        served.append(at)
+    return tuple(found)
+
+
+def tax(amount, rate):
+    exact = Fraction(amount * rate, 1000)
+    below = exact.numerator // exact.denominator
+    return below + 1 if exact - below >= Fraction(1, 2) else below

@@ -12,6 +12,20 @@ STRANGE = (
     (None, None, None), ("", "", ""), ("abc", "abc"), [0] * 20000, ([],) * 19999, NESTED,
 )
 
+DAY = 86400
+OFFICE = ((0, "low"), (28800, "high"), (64800, "low"))
+CALM = ((0, "low"),)
+WEEK = ((OFFICE,) * 7 + (CALM,), ())
+
+# Seven days that all differ, and two days of feasts one behind the other.
+VARIED = (tuple(((0, name), (1000 * (k + 1), "mid"), (DAY - 1 - k, name)) for k, name in enumerate("abcdefg"))
+          + (((0, "feast"), (50, "mid"), (DAY - 1, "feast")),), (0, 9, 10, 1000))
+
+
+def one_band(feasts=(), feast=((0, "high"),)):
+    """A week that is low at all times but on feasts."""
+    return ((CALM,) * 7 + (feast,), feasts)
+
 
 def as_lists(value):
     """The same with lists in place of tuples, at every level."""

@@ -16,6 +16,16 @@ INTERFACE = {
         "is_week": "value", "band": "week second", "next_change": "week second",
         "seconds_in": "week first last band",
     },
+    "tariffs": {
+        "is_tariff": "value", "zone": "tariff number", "price": "tariff week number second",
+        "cost": "tariff week number begin length", "most": "tariff week number begin money cap",
+        "tariffs_part": "one other week",
+    },
+    "bundles": {
+        "least_bill": "groups bundles", "uses": "groups bundles", "paper": "groups bundles",
+        "paper_holds": "groups bundles bound value",
+    },
+    "shares": {"shares": "whole weights", "tax": "amount rate"},
 }
 
 

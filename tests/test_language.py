@@ -12,6 +12,10 @@ BUILTINS = set(
     "any all divmod pow Exception ValueError TypeError KeyError IndexError LookupError ZeroDivisionError "
     "NotImplemented NotImplementedError RuntimeError".split())
 METHODS = set("__init__ __eq__ __repr__ __str__ __len__ __iter__ __call__".split())
+CALLED = set(
+    "append clear copy count endswith extend find get index insert isalnum isalpha isdigit islower isspace isupper "
+    "items join keys ljust lower lstrip partition pop remove replace reverse rfind rjust rpartition rsplit rstrip "
+    "setdefault split splitlines startswith strip update upper values zfill bit_length isascii add discard".split())
 LIBRARY = {"heapq": {"heappush", "heappop", "heapify"}, "math": {"gcd", "lcm", "isqrt"}}
 NODES = set(
     "Module Import ImportFrom alias FunctionDef arguments arg ClassDef Return Assign AugAssign For While If Raise Try "
@@ -110,6 +114,27 @@ class LanguageTest(unittest.TestCase):
                     for each in node.names:
                         self.assertIsNone(each.asname)
                         self.assertIn(each.name, known, name)
+
+    def test_methods(self):
+        """L25: no other methods of builtin values are called, and none with keywords."""
+        own = {each.name for _, tree in trees() for node in tree.body if isinstance(node, ast.ClassDef)
+               for each in node.body if isinstance(each, ast.FunctionDef)}
+        for name, tree in trees():
+            for node in ast.walk(tree):
+                if isinstance(node, ast.Call) and isinstance(node.func, ast.Attribute):
+                    with self.subTest(file=name, line=node.lineno):
+                        self.assertIn(node.func.attr, CALLED | own)
+                        self.assertTrue(node.func.attr in own or not node.keywords)
+
+    def test_powers_and_tests_of_identity(self):
+        """L20, L27: exponents are literals; `is` stands with None, True and False."""
+        for name, tree in trees():
+            for node in ast.walk(tree):
+                with self.subTest(file=name, line=getattr(node, "lineno", 0)):
+                    if isinstance(node, ast.BinOp) and isinstance(node.op, ast.Pow):
+                        self.assertIsInstance(node.right, ast.Constant)
+                    if isinstance(node, ast.Compare) and isinstance(node.ops[0], (ast.Is, ast.IsNot)):
+                        self.assertIsInstance(node.comparators[0], ast.Constant)
 
     def test_names(self):
         """L8, L15, L17: no other builtin is used, and no local name hides a builtin, a class or an import."""

@@ -5,23 +5,9 @@ import unittest
 import reference
 from calls import CallChecks, position
 from eachsecond.weeks import band, band_at, is_week, next_change, seconds_in, stretches
-from samples import STRANGE, as_lists, mixed, places, put
+from samples import CALM, DAY, OFFICE, STRANGE, VARIED, WEEK, as_lists, mixed, one_band, places, put
 
 LAST = 10 ** 8
-DAY = 86400
-OFFICE = ((0, "low"), (28800, "high"), (64800, "low"))
-CALM = ((0, "low"),)
-WEEK = ((OFFICE,) * 7 + (CALM,), ())
-
-
-def one_band(feasts=(), feast=((0, "high"),)):
-    """A week that is low at all times but on feasts."""
-    return ((CALM,) * 7 + (feast,), feasts)
-
-
-# Seven days that all differ, and two days of feasts one behind the other.
-VARIED = (tuple(((0, name), (1000 * (k + 1), "mid"), (DAY - 1 - k, name)) for k, name in enumerate("abcdefg"))
-          + (((0, "feast"), (50, "mid"), (DAY - 1, "feast")),), (0, 9, 10, 1000))
 
 
 class WeekCallTest(CallChecks, unittest.TestCase):
