@@ -1,5 +1,6 @@
 """Where a number rings: by blocks, by who holds it, by forwarding."""
 
+from eachsecond.courses import Course, Pair, changes
 from eachsecond.values import (
     is_ascending, is_digits, is_long_number, is_number, is_number_or_none, is_rows, is_rows_of,
     is_second, is_within, is_word, is_word_or_none, need, number_order,
@@ -163,35 +164,37 @@ def all_rings(owners, targets):
     return found
 
 
-def seconds_of(rows):
-    """The seconds at which the rows begin, each once, ascending."""
-    return sorted({row[1] for row in rows})
-
-
 def first_circle(plan):
     """The pair (second, number) at which a ring first is a circle; None if none ever is."""
     need(is_plan(plan), 0)
-    forwards = plan[2]
-    for second in seconds_of(forwards):
-        rings = all_rings({}, latest(forwards, second))
-        circling = [number for number in rings if rings[number][0] == "circle"]
-        if circling:
+    moves = changes(plan[2])
+    course = Course()
+    for second in sorted(moves):
+        course.go(moves[second])
+        if course.around:
+            rings = all_rings({}, course.targets)
+            circling = [number for number in rings if rings[number][0] == "circle"]
             return (second, min(circling, key=number_order))
     return None
+
+
+def parting_number(pair):
+    """The least number whose rings part in a pair of plans."""
+    here = all_rings(pair.one_owners, pair.one.targets)
+    there = all_rings(pair.other_owners, pair.other.targets)
+    # A number that stands in neither rings nowhere in both.
+    parting = [number for number in list(here) + list(there) if here.get(number) != there.get(number)]
+    return min(parting, key=number_order)
 
 
 def plans_part(one, other):
     """The pair (second, number) at which the rings of two plans first part; None if they never do."""
     need(is_plan(one), 0)
     need(is_plan(other), 1)
-    one_owners, other_owners = owner_rows(one), owner_rows(other)
-    rows = one_owners + other_owners + list(one[2]) + list(other[2])
-    for second in seconds_of(rows):
-        here = all_rings(latest(one_owners, second), latest(one[2], second))
-        there = all_rings(latest(other_owners, second), latest(other[2], second))
-        # A number that stands in neither rings nowhere in both.
-        named = list(here) + list(there)
-        parting = [number for number in named if here.get(number) != there.get(number)]
-        if parting:
-            return (second, min(parting, key=number_order))
+    kinds = [changes(rows) for rows in (one[2], other[2], owner_rows(one), owner_rows(other))]
+    pair = Pair()
+    for second in sorted({at for kind in kinds for at in kind}):
+        news = [kind.get(second, {}) for kind in kinds]
+        if pair.go(*news):
+            return (second, parting_number(pair))
     return None
