@@ -86,19 +86,19 @@ class Filling:
 
     def spread(self):
         """By cover and bundle the seconds that the groups of this cover give to this bundle."""
-        left = {cover: 0 for cover in self.covers}
+        sums = {cover: 0 for cover in self.covers}
         for cover, given in zip(self.covers, self.given):
-            left[cover] += given
+            sums[cover] += given
         room = list(self.room)
         parts = {}
-        for cover in left:
+        for cover, left in sums.items():
             for at in members(cover):
                 # Only these sets have less room if this bundle, and no other one, serves the cover.
                 narrow = [each for each in range(len(room)) if each >> at & 1 and each & cover != cover]
-                taken = min([left[cover]] + [room[each] for each in narrow])
+                taken = min([left] + [room[each] for each in narrow])
                 for each in narrow:
                     room[each] -= taken
-                left[cover] -= taken
+                left -= taken
                 parts[(cover, at)] = taken
         return parts
 
