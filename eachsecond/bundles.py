@@ -28,11 +28,16 @@ def is_words(value):
     return is_rows_of(value, 0, 12, is_word) and is_ascending(value)
 
 
-def is_bundle(value):
-    if not is_rows(value, 4, 4):
+def is_offer(value):
+    """Whether value is what a bundle has behind its word."""
+    if not is_rows(value, 3, 3):
         return False
-    word, seconds, zones, bands = value
-    return is_word(word) and is_within(seconds, 0, MOST_SECONDS) and is_words(zones) and is_words(bands)
+    seconds, zones, bands = value
+    return is_within(seconds, 0, MOST_SECONDS) and is_words(zones) and is_words(bands)
+
+
+def is_bundle(value):
+    return is_rows(value, 4, 4) and is_word(value[0]) and is_offer(value[1:])
 
 
 def is_bundles(value):

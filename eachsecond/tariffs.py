@@ -7,6 +7,8 @@ from eachsecond.weeks import DAY, band_at, first_days, is_week, stretches
 
 LONGEST_CALL = 10 ** 6
 MOST_MONEY = 10 ** 12
+MOST_ZONES = 12
+MOST_PRICES = 40
 
 
 def is_zone(value):
@@ -24,12 +26,12 @@ def is_tariff(value):
     if not is_rows(value, 3, 3):
         return False
     setup, zones, prices = value
-    if not (is_within(setup, 0, MOST_PRICE) and is_rows_of(zones, 1, 12, is_zone)):
+    if not (is_within(setup, 0, MOST_PRICE) and is_rows_of(zones, 1, MOST_ZONES, is_zone)):
         return False
     prefixes = [row[0] for row in zones]
     if prefixes[0] != "" or not is_ascending(prefixes):
         return False
-    return is_rows_of(prices, 0, 40, is_price) and is_ascending([(row[0], row[1]) for row in prices])
+    return is_rows_of(prices, 0, MOST_PRICES, is_price) and is_ascending([(row[0], row[1]) for row in prices])
 
 
 def zone_of(tariff, number):
@@ -49,10 +51,14 @@ def zone(tariff, number):
     return zone_of(tariff, number)
 
 
-def prices_of(tariff, number):
-    """The prices for the number by band; a band that has none costs 0."""
-    mine = zone_of(tariff, number)
+def zone_prices(tariff, mine):
+    """The prices of the zone by band; a band that has none costs 0."""
     return {band: worth for name, band, worth in tariff[2] if name == mine}
+
+
+def prices_of(tariff, number):
+    """The prices for the number by band."""
+    return zone_prices(tariff, zone_of(tariff, number))
 
 
 def price(tariff, week, number, second):

@@ -73,3 +73,10 @@ def is_ascending(keys):
 def number_order(number):
     """The key by which numbers are ordered."""
     return (len(number), number)
+
+
+def frozen(value):
+    """The same with plain tuples in place of sequences, at every level."""
+    if isinstance(value, (list, tuple)):
+        return tuple([frozen(each) for each in value])
+    return value
