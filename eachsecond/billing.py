@@ -75,13 +75,11 @@ class Billing:
     def counted(self, cycle):
         tally = Tally(cycle * self.length, (cycle + 1) * self.length)
         tables = self.lookup()
-        for key, piece in tables.pieces:
-            if tally.meets(piece):
-                tally.take(self.charges(key, piece))
-            if key[1] == 0 and tally.begins(piece):
-                setup = setup_of(tables, piece)
-                if setup is not None:
-                    tally.set_up(setup[0], setup[1])
+        for key, piece in tables.pieces_in(tally.first, tally.last):
+            tally.take(self.charges(key, piece))
+            setup = setup_of(tables, piece) if key[1] == 0 and tally.first <= piece[2] else None
+            if setup is not None:
+                tally.set_up(setup[0], setup[1])
         return tally
 
     def usage(self, customer, cycle):
@@ -95,11 +93,9 @@ class Billing:
         weights = {}
         for zone, _, price, seconds in groups:
             weights[zone] = weights.get(zone, 1) + price * seconds
-        parts = ()
-        if weights:
-            parts = tuple(zip(weights, shares_of(net, list(weights.values()))))
+        parts = shares_of(net, list(weights.values()))
         tax = tax_of(net, self.rate)
-        return (net, parts, tax, net + tax)
+        return (net, tuple(zip(weights, parts)), tax, net + tax)
 
     def totals(self, cycle):
         """By customer the totals of the bills for the cycle; who is not among them has no bill."""

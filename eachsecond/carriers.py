@@ -42,7 +42,7 @@ def best_order(moneys):
         last = max(places, key=lambda at: counts[chosen - (1 << at)])
         order.append(last)
         chosen -= 1 << last
-    return order[::-1]
+    return order
 
 
 def payments(accounts):
@@ -53,8 +53,7 @@ def payments(accounts):
     and no other ones, have money that adds up to 0.
     """
     need(is_accounts(accounts), 0)
-    open_accounts = [row for row in accounts if row[1] != 0]
-    order = [open_accounts[at] for at in best_order([row[1] for row in open_accounts])]
+    order = [accounts[at] for at in best_order([row[1] for row in accounts])]
     found = []
     owed = 0
     for (carrier, money), (other, _) in zip(order, order[1:]):

@@ -57,14 +57,6 @@ class Tally:
         self.setups = {}
         self.lone = 0
 
-    def meets(self, piece):
-        """Whether a second of the piece is in the cycle."""
-        return max(self.first, piece[2]) < min(self.last, piece[2] + piece[3])
-
-    def begins(self, piece):
-        """Whether the first second of the piece is in the cycle."""
-        return piece[3] > 0 and self.first <= piece[2] < self.last
-
     def take(self, rows):
         """Count what is in the cycle of the rows of a piece."""
         at = max(reached(rows, self.first) - 1, 0)

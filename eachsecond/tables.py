@@ -4,6 +4,7 @@ Rows (second, what), ascending, tell what there is: from the second of a row on,
 """
 
 from eachsecond.plans import owner_rows
+from eachsecond.tariffs import LONGEST_CALL
 
 MOST_BUNDLES = 8
 
@@ -52,7 +53,8 @@ def plan_of(blocks, facts):
 class Tables:
     """owners: by number rows of pairs (customer, carrier), or None where the number is not held.
     names: by customer rows of names of tariffs. tariffs: by name rows of tariffs.
-    bundles: by customer and cycle. pieces: pairs (key, value).
+    bundles: by customer and cycle. pieces: pairs (key, piece).
+    begins: pairs (begin, (key, piece)) of the pieces that have a second, ascending.
     """
 
     def __init__(self, plan, facts):
@@ -60,6 +62,7 @@ class Tables:
         self.names = rows_by_name(facts.listed("uses"))
         self.tariffs = rows_by_name(facts.listed("tariff"))
         self.pieces = facts.listed("piece")
+        self.begins = sorted([(pair[1][2], pair) for pair in self.pieces if pair[1][3] > 0])
         self.bundles = {}
         for (customer, cycle, word), offer in facts.listed("bundle"):
             self.bundles.setdefault((customer, cycle), []).append((word,) + offer)
@@ -74,6 +77,13 @@ class Tables:
         for begin, end, name in spans(self.names.get(customer, []), first, last):
             found.extend(spans(self.tariffs.get(name, []), begin, end))
         return found
+
+    def pieces_in(self, first, last):
+        """The pairs (key, piece) of the pieces with a second from first on and below last."""
+        # Who begins earlier than this has ended by then.
+        low = reached(self.begins, first - LONGEST_CALL)
+        high = reached(self.begins, last - 1)
+        return [pair for begin, pair in self.begins[low:high] if begin + pair[1][3] > first]
 
     def bundles_for(self, customer, cycle):
         """The bundles that a bill takes, the least by word."""

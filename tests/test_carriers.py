@@ -124,6 +124,8 @@ class SettlesTest(unittest.TestCase):
                 (("a", "north", 7), PAID[1]), (("east", "north", -7), PAID[1])):
             self.check(ACCOUNTS, value, False)
         self.check(ACCOUNTS, (("east", "north", 8), ("north", "east", 1), PAID[1]), True)
+        self.check(ACCOUNTS, (("east", "north", 7), ("north", "east", 0), PAID[1]), False)
+        self.check(ACCOUNTS, (("east", "north", 6), ("north", "east", -1), PAID[1]), False)
 
     def test_strange_values(self):
         for strange in STRANGE:

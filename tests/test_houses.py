@@ -123,6 +123,14 @@ class HouseTest(unittest.TestCase):
             other.tell(("bundle", ("ann", 0, "x"), 0, (5, ("home",), ())))
             self.assertEqual(state(house), state(other))
             self.assertEqual(house, other)
+            # What was asked for the first time, and what it is asked behind further facts.
+            for each in (house, other):
+                each.tell(("hold", ("50123", 0), 0, ("bob", None)))
+                each.tell(piece("d", 2 * DAY - 5, 30, caller="50123", dialled="4000"))
+                each.tell(piece("e", 990, 30, dialled="50123"))
+                each.close()
+            self.assertEqual(state(house), state(other))
+            self.assertEqual(state(house.copy()), state(other))
 
     def test_plain_tuples_are_returned_and_stay(self):
         house = House(*[as_lists(each) for each in ARGUMENTS])

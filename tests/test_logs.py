@@ -206,6 +206,8 @@ class RebuiltTest(unittest.TestCase):
         self.assertEqual(self.check(ROWS[:3] + (None, ("close", 1)) + ROWS[3:]), 3)
         self.assertEqual(self.check((FIRST, FIRST)), 1)
         self.assertEqual(self.check((FIRST[:5], None)), 0)
+        self.assertEqual(self.check((FIRST + (None,), None)), 0)
+        self.assertEqual(self.check((FIRST + FIRST[-1:],)), 0)
         self.assertEqual(self.check((("tell", ANN[0]), FIRST)), 0)
         self.assertEqual(self.check((FIRST[:1] + SIMPLE[:4] + (1001,),)), 0)
 

@@ -37,6 +37,10 @@ class OwedTest(unittest.TestCase):
         self.assertEqual(owed(("hold", ("4001", 0), 0, ("bob", "north")), piece("c", 0, 10, dialled="4001")), {})
         self.assertEqual(owed(("hold", ("50123", 0), 1, ("bob", "north")), piece("c", 0, 10, dialled="50123")), {})
 
+    def test_customers_with_names_of_carriers(self):
+        self.assertEqual(owed(("hold", ("4000", 0), 1, ("south", None)), ("hold", ("50123", 0), 1, ("north", None)),
+                              piece("c", 0, 10, dialled="50123")), {"north": -30, "south": 30})
+
     def test_rates_that_are_not_there(self):
         self.assertEqual(owed(("hold", ("4000", 0), 1, ("ann", "west")), piece("c", 0, 10, dialled="50123")), {})
         self.assertEqual(owed(("hold", ("50123", 0), 1, ("bob", "west")), piece("c", 0, 10, dialled="50123")), {})

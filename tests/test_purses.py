@@ -4,7 +4,7 @@ import unittest
 
 import reference
 from calls import MethodChecks, position
-from eachsecond.errors import BadValue, NoCall, NoMoney, NotNow, SecondError, TakenCall
+from eachsecond.errors import NoCall, NotNow, SecondError, TakenCall
 from eachsecond.houses import House
 from eachsecond.purses import Purse
 from eachsecond.tariffs import cost

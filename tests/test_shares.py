@@ -6,7 +6,7 @@ from fractions import Fraction
 import reference
 from calls import CallChecks, position
 from eachsecond.shares import shares, shares_of, tax, tax_of
-from samples import STRANGE, plain
+from samples import plain
 
 MOST = 10 ** 15
 

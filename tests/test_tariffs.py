@@ -314,6 +314,13 @@ class TariffsPartTest(unittest.TestCase):
             self.parts(FREE, dear, late, (1, begin + DAY - 1, "000"))
         self.parts(FREE, dear, one_band(()), None)
 
+    def test_the_band_of_one_day_of_the_week_alone(self):
+        dear = FREE[:2] + ((("far", "high", 5),),)
+        for day in range(7):
+            week = ((CALM,) * day + (((0, "low"), (60, "high")),) + (CALM,) * (7 - day), (7,))
+            self.parts(FREE, dear, week, (1, day * DAY + 60, "000"))
+            self.parts(FREE, dear, (week[0], (day,)), (1, (7 + day) * DAY + 60, "000"))
+
     def test_a_week_s_day_that_feasts_hide(self):
         # Only Thursdays are high, and the first twenty ones are feasts.
         week = ((CALM,) * 3 + (((0, "low"), (9, "high")),) + (CALM,) * 4, tuple(range(3, 143, 7)))

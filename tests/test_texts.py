@@ -7,7 +7,7 @@ import slow_house
 from eachsecond.errors import BadText
 from eachsecond.houses import House
 from eachsecond.texts import parse, printed
-from house_samples import PLAIN, SIMPLE, drawn_facts
+from house_samples import SIMPLE, drawn_facts
 from samples import STRANGE, as_lists, mixed, plain
 
 MILLION = 10 ** 6
