@@ -51,7 +51,9 @@ def plan_of(blocks, facts):
 
 
 class Tables:
-    """owners: by number rows of pairs (customer, carrier), or None where the number is not held.
+    """The tables of the facts of a house.
+
+    owners: by number rows of pairs (customer, carrier), or None where the number is not held.
     names: by customer rows of names of tariffs. tariffs: by name rows of tariffs.
     bundles: by customer and cycle. pieces: pairs (key, piece).
     begins: pairs (begin, (key, piece)) of the pieces that have a second, ascending.
